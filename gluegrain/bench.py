@@ -1,10 +1,18 @@
 """The calls: each takes a work's text and its dry pairs, and answers a list of whole numbers."""
 
-from gluegrain.grid import first_overlap
+from gluegrain.glue import glued_joints
+from gluegrain.grid import Grid
 from gluegrain.reading import read_work
 
 MOST_BYTES = 65536
 MOST_DRY_NUMBERS = 992
+
+
+# What every call looks at first: its refusal, empty if there's none, and the work's puts in their grid.
+class Look:
+    def __init__(self, refusal, grid):
+        self.refusal = refusal
+        self.grid = grid
 
 
 def are_pairs(dry, put_count):
@@ -16,22 +24,41 @@ def are_pairs(dry, put_count):
     return True
 
 
-def first_refusal(text, dry):
+def look_at(text, dry):
     if len(text) > MOST_BYTES or len(dry) > MOST_DRY_NUMBERS:
-        return [-2]
+        return Look([-2], None)
     work = read_work(text)
     if work.fault is not None:
-        return [-6, work.fault[0], work.fault[1]]
-    pair = first_overlap(work.puts)
-    if pair is not None:
-        return [-9, pair[0], pair[1]]
+        return Look([-6, work.fault[0], work.fault[1]], None)
+    grid = Grid(work.puts)
+    if grid.overlap is not None:
+        return Look([-9, grid.overlap[0], grid.overlap[1]], None)
     if not are_pairs(dry, len(work.puts)):
-        return [-1]
+        return Look([-1], None)
+    return Look([], grid)
+
+
+def pair_refusal(look, i, j):
+    if look.refusal != []:
+        return look.refusal
+    put_count = len(look.grid.puts)
+    if i >= put_count or j >= put_count:
+        return [-4]
+    if i == j:
+        return [-8]
     return []
 
 
 def judge(text, dry):
-    refusal = first_refusal(text, dry)
+    look = look_at(text, dry)
+    if look.refusal != []:
+        return look.refusal
+    return [0]
+
+
+def joint(i, j, text, dry):
+    look = look_at(text, dry)
+    refusal = pair_refusal(look, i, j)
     if refusal != []:
         return refusal
-    return [0]
+    return [glued_joints(look.grid, dry)[i][j]]

@@ -1,4 +1,4 @@
-"""The grid: which of its cells a put has, and which puts overlap."""
+"""The grid: which of its cells a put has, where its grain lies, and which puts overlap."""
 
 # The steps of the ways 0 to 5.
 STEPS = ((1, 0, 0), (-1, 0, 0), (0, 1, 0), (0, -1, 0), (0, 0, 1), (0, 0, -1))
@@ -13,6 +13,15 @@ def up_way(right, back):
     b = STEPS[back]
     up = (a[1] * b[2] - a[2] * b[1], a[2] * b[0] - a[0] * b[2], a[0] * b[1] - a[1] * b[0])
     return STEPS.index(up)
+
+
+def ways_of(put):
+    return (put.right, put.back, up_way(put.right, put.back))
+
+
+# Two ways, there and back, lie along each axis.
+def grain_axis(put):
+    return ways_of(put)[put.part.grain] // 2
 
 
 def cell_number(place):
@@ -32,10 +41,9 @@ def cells_along(part, start, strides):
 
 
 def cells_of(put):
-    ways = (put.right, put.back, up_way(put.right, put.back))
     start = cell_number(put.corner)
     strides = []
-    for way, length in zip(ways, put.part.lengths):
+    for way, length in zip(ways_of(put), put.part.lengths):
         stride = STRIDES[way // 2]
         if way % 2 == 0:
             strides.append(stride)
@@ -46,14 +54,18 @@ def cells_of(put):
     return cells_along(put.part, start, strides)
 
 
-# Asking only for the first owner of a cell is enough: of all puts that have the cell,
-# the first pair begins with it.
-def first_overlap(puts):
-    owner_of = {}
-    first = None
-    for j, put in enumerate(puts):
+class Grid:
+    def __init__(self, puts):
+        self.puts = puts
+        self.owner_of = {}
+        self.overlap = None
+        for j, put in enumerate(puts):
+            self.lay(j, put)
+
+    # Asking only for the first owner of a cell is enough: of all puts that have the cell,
+    # the first pair begins with it.
+    def lay(self, j, put):
         for cell in cells_of(put):
-            i = owner_of.setdefault(cell, j)
-            if i != j and (first is None or (i, j) < first):
-                first = (i, j)
-    return first
+            i = self.owner_of.setdefault(cell, j)
+            if i != j and (self.overlap is None or (i, j) < self.overlap):
+                self.overlap = (i, j)

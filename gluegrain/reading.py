@@ -17,6 +17,7 @@ FARTHEST_CORNER = 48
 
 # In the order of the ways 0 to 5: two and two lie along one axis.
 WAY_LETTERS = "rlbfud"
+# In the order of the axes 0 to 2.
 GRAINS = ("x", "y", "z")
 
 
@@ -87,7 +88,7 @@ def why_wrong(work, words):
 
 def take_line(work, words):
     if words[0] == "part":
-        work.add_part(words[1], Part(numbers_of(words[2:5])))
+        work.add_part(words[1], Part(numbers_of(words[2:5]), GRAINS.index(words[5])))
     elif words[0] == "cut":
         work.last_part().cut_away(numbers_of(words[1:4]), numbers_of(words[4:7]))
     else:

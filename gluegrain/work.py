@@ -3,8 +3,9 @@
 
 # A row is a number: its bit x is 1 if the part has the cell x of that row.
 class Part:
-    def __init__(self, lengths):
+    def __init__(self, lengths, grain):
         self.lengths = lengths
+        self.grain = grain
         self.cut_count = 0
         self.rows = [(1 << lengths[0]) - 1] * (lengths[1] * lengths[2])
 

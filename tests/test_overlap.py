@@ -3,29 +3,11 @@
 import itertools
 import unittest
 
-from helper import ACROSS, STEPS, judge_lines
-
-# Of three unlike lengths, and with cells left that no turn and no mirror maps to themselves.
-CROOKED = ["part a 2 3 4 x", "cut 0 0 1 1 3 3", "cut 1 0 2 1 2 2", "cut 0 2 0 2 1 1", "cut 1 2 1 1 1 2"]
+from helper import ACROSS, CROOKED, cells_left, judge_lines, turned
 
 
 def crooked_cells():
-    cuts = [[int(word) for word in line.split()[1:]] for line in CROOKED[1:]]
-    return [cell for cell in itertools.product(range(2), range(3), range(4))
-            if not any(all(cut[k] <= cell[k] < cut[k] + cut[k + 3] for k in range(3)) for cut in cuts)]
-
-
-def turned(cells, block, ways):
-    """Each cell's place as a sum of steps; then all moved so that the block's lowest corner is 0."""
-    a, b = STEPS[ways[0]], STEPS[ways[1]]
-    up = (a[1] * b[2] - a[2] * b[1], a[2] * b[0] - a[0] * b[2], a[0] * b[1] - a[1] * b[0])
-
-    def place(cell):
-        return tuple(cell[0] * a[k] + cell[1] * b[k] + cell[2] * up[k] for k in range(3))
-
-    block_places = [place(cell) for cell in itertools.product(*[range(length) for length in block])]
-    lowest = [min(at[k] for at in block_places) for k in range(3)]
-    return {tuple(at[k] - lowest[k] for k in range(3)) for at in map(place, cells)}
+    return cells_left((2, 3, 4), [[int(word) for word in line.split()[1:]] for line in CROOKED[1:]])
 
 
 def told_cells(part_lines, ways, corner, reach):

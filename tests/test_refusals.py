@@ -4,7 +4,7 @@ import itertools
 import unittest
 
 from gluegrain.bench import judge
-from helper import apart, judge_lines, text_of
+from helper import FIRST_REFUSALS, apart, judge_lines, text_of
 
 THREE = ["part a 1 1 1 x"] + apart(3)
 OVERLAPPING = ["part a 1 1 1 x", "put a rb 0 0 0", "put a rb 0 0 0"]
@@ -64,6 +64,10 @@ class WrongPairs(unittest.TestCase):
 
 
 class Order(unittest.TestCase):
+    def test_what_every_call_refuses_first(self):
+        for text, dry, answer in FIRST_REFUSALS:
+            self.assertEqual(judge(text, dry), answer)
+
     def test_too_large_before_all(self):
         long_dry = [7] * 993
         self.assertEqual(judge_lines([""], long_dry), [-2])

@@ -3,6 +3,7 @@
 import ast
 import builtins
 import pathlib
+import re
 import unittest
 
 PACKAGE = pathlib.Path(__file__).resolve().parent.parent / "gluegrain"
@@ -11,6 +12,17 @@ ALLOWED = (
     "len range enumerate zip min max sum abs sorted reversed int str bool list tuple dict set frozenset isinstance "
     "ord repr any all divmod Exception ValueError TypeError KeyError IndexError LookupError ZeroDivisionError "
     "ArithmeticError OverflowError RuntimeError NotImplementedError AttributeError StopIteration"
+).split()
+METHODS = (
+    "append clear copy count endswith extend find get index insert isalnum isalpha isdigit islower isspace isupper items "
+    "join keys ljust lower lstrip partition pop remove replace reverse rfind rjust rpartition rsplit rstrip setdefault "
+    "split splitlines startswith strip update upper values zfill bit_length"
+).split()
+OUTSIDE = (ast.With, ast.Match, ast.Delete, ast.Global, ast.Nonlocal, ast.Assert, ast.Yield, ast.YieldFrom, ast.Await,
+           ast.GeneratorExp, ast.SetComp, ast.DictComp, ast.NamedExpr, ast.Starred, ast.Div)
+WORDS_LEFT_OUT = (
+    "type typing typing_extensions enum Enum IntEnum StrEnum Flag IntFlag Generic Protocol ABC ABCMeta namedtuple "
+    "NamedTuple TypedDict TYPE_CHECKING abstractmethod"
 ).split()
 
 
@@ -39,6 +51,28 @@ class Source(unittest.TestCase):
             for node in ast.walk(tree):
                 if isinstance(node, ast.Name) and hasattr(builtins, node.id):
                     self.assertIn(node.id, ALLOWED, f"{name}, line {node.lineno}")
+
+    def test_no_other_method_of_pythons_own(self):
+        own = [node.name for name, tree in self.trees() for node in ast.walk(tree) if isinstance(node, ast.FunctionDef)]
+        for name, tree in self.trees():
+            for node in ast.walk(tree):
+                if isinstance(node, ast.Call) and isinstance(node.func, ast.Attribute):
+                    self.assertIn(node.func.attr, METHODS + own, f"{name}, line {node.lineno}")
+
+    def test_no_form_outside_the_rules(self):
+        for name, tree in self.trees():
+            for node in ast.walk(tree):
+                self.assertNotIsInstance(node, OUTSIDE, name)
+                if isinstance(node, (ast.For, ast.While)):
+                    self.assertEqual(node.orelse, [], f"{name}, line {node.lineno}")
+                if isinstance(node, ast.Assign):
+                    self.assertEqual(len(node.targets), 1, f"{name}, line {node.lineno}")
+
+    def test_words_left_out(self):
+        for path in FILES:
+            words = re.findall(r"[A-Za-z0-9_]+", path.read_text(encoding="utf-8"))
+            for word in WORDS_LEFT_OUT:
+                self.assertNotIn(word, words, path.name)
 
     def test_sizes_and_signs(self):
         for path in FILES:

@@ -1,11 +1,9 @@
 """Works that are right: judge answers 0."""
 
-import contextlib
-import io
 import unittest
 
 from gluegrain.bench import judge
-from helper import ACROSS, apart, judge_lines, text_of
+from helper import ACROSS, HandingChecks, apart, judge_lines, text_of
 
 TABLE = [
     "part top 16 10 1 x",
@@ -55,63 +53,18 @@ class RightWorks(unittest.TestCase):
                                       "put put rb 0 0 0", "put cut rb 1 0 0", "put part rb 2 0 0"]), [0])
 
 
-class Watched(list):
-    """A list that tells when it is changed, for however short a while."""
-
-    def refuse(self, *given, **named):
-        raise AssertionError("what was handed in is changed")
-
-    append = extend = insert = pop = remove = clear = sort = reverse = refuse
-    __setitem__ = __delitem__ = __iadd__ = __imul__ = refuse
-
-
-CALLS = [
-    ([], []),
-    (text_of(TABLE), [0, 1, 3, 2]),
-    (text_of(TABLE), [0]),
-    (text_of(TABLE + ["put leg rb 13 11 0"]), [0, 1]),
-    (text_of(TABLE + ["cut 0 0 0 1 1 1"]), []),
-    (text_of(TABLE)[:-1], []),
-    ([10] * 65537, []),
-]
-
-
-class Handing(unittest.TestCase):
-    def test_nothing_handed_in_is_changed(self):
-        for text, dry in CALLS:
-            handed_text, handed_dry = Watched(text), Watched(dry)
-            judge(handed_text, handed_dry)
-            self.assertEqual((list(handed_text), list(handed_dry)), (text, dry))
-
-    def test_a_second_call_answers_as_the_first(self):
-        first = [judge(text, dry) for text, dry in CALLS]
-        self.assertEqual(first, [[0], [0], [-1], [-9, 1, 4], [-6, 8, 3], [-6, 7, 1], [-2]])
-        self.assertEqual([judge(text, dry) for text, dry in CALLS], first)
-        self.assertEqual([judge(text, dry) for text, dry in reversed(CALLS)], first[::-1])
-
-    def test_a_changed_answer_changes_no_later_one(self):
-        for text, dry in CALLS:
-            answer = judge(text, dry)
-            kept = list(answer)
-            answer.append(7)
-            answer[0] = 5
-            self.assertEqual(judge(text, dry), kept)
-
-    def test_answers_are_lists_of_whole_numbers(self):
-        for text, dry in CALLS:
-            answer = judge(text, dry)
-            self.assertIs(type(answer), list)
-            self.assertEqual({type(number) for number in answer}, {int})
-
-    def test_arguments_by_name(self):
-        self.assertEqual(judge(text=text_of(TABLE), dry=[0, 1]), [0])
-
-    def test_nothing_is_printed(self):
-        out, err = io.StringIO(), io.StringIO()
-        with contextlib.redirect_stdout(out), contextlib.redirect_stderr(err):
-            for text, dry in CALLS:
-                judge(text, dry)
-        self.assertEqual(out.getvalue() + err.getvalue(), "")
+class Handing(HandingChecks, unittest.TestCase):
+    call = staticmethod(judge)
+    names = ("text", "dry")
+    handed = [
+        (([], []), [0]),
+        ((text_of(TABLE), [0, 1, 3, 2]), [0]),
+        ((text_of(TABLE), [0]), [-1]),
+        ((text_of(TABLE + ["put leg rb 13 11 0"]), [0, 1]), [-9, 1, 4]),
+        ((text_of(TABLE + ["cut 0 0 0 1 1 1"]), []), [-6, 8, 3]),
+        ((text_of(TABLE)[:-1], []), [-6, 7, 1]),
+        (([10] * 65537, []), [-2]),
+    ]
 
 
 if __name__ == "__main__":
