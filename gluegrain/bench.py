@@ -2,6 +2,7 @@
 
 from gluegrain.glue import glued_joints
 from gluegrain.grid import Grid
+from gluegrain.parting import part_between
 from gluegrain.reading import read_work
 
 MOST_BYTES = 65536
@@ -62,3 +63,12 @@ def joint(i, j, text, dry):
     if refusal != []:
         return refusal
     return [glued_joints(look.grid, dry)[i][j]]
+
+
+def holds(i, j, text, dry):
+    look = look_at(text, dry)
+    refusal = pair_refusal(look, i, j)
+    if refusal != []:
+        return refusal
+    parting = part_between(glued_joints(look.grid, dry), i, j)
+    return [parting[0], len(parting[1])] + parting[1]

@@ -98,6 +98,40 @@ def joint_table(lines, dry=()):
     return table
 
 
+def strength(table, members):
+    outside = [j for j in range(len(table)) if j not in members]
+    return sum([table[i][j] for i in members for j in outside])
+
+
+def cuts_between(count, i, j):
+    """Every set of puts that has i and not j."""
+    others = [k for k in range(count) if k not in (i, j)]
+    for size in range(len(others) + 1):
+        for more in itertools.combinations(others, size):
+            yield sorted((i,) + more)
+
+
+def least_cuts(table, i, j):
+    """The least strength of a cut between i and j, and all cuts of that strength, those of few puts first."""
+    found = [(strength(table, members), members) for members in cuts_between(len(table), i, j)]
+    least = min(found)[0]
+    return least, [members for told, members in found if told == least]
+
+
+def cell_row(grains):
+    """Cells in a row to the back, one for each grain: where two grains are alike (not y) they're glued with 6,
+    x and z with 4, y and another with 1, y and y with 0."""
+    parts = [f"part {grain} 1 1 1 {grain}" for grain in "xyz"]
+    return parts + [f"put {grain} rb 0 {k} 0" for k, grain in enumerate(grains)]
+
+
+def cell_ring(grains):
+    """Cells round a square of three by three with a hole, from its corner on, one for each grain."""
+    places = [(0, 0), (1, 0), (2, 0), (2, 1), (2, 2), (1, 2), (0, 2), (0, 1)]
+    parts = [f"part {grain} 1 1 1 {grain}" for grain in "xyz"]
+    return parts + [f"put {grain} rb {x} {y} 0" for grain, (x, y) in zip(grains, places, strict=True)]
+
+
 def random_work(rng, count, reach=2):
     """Puts of some turned and cut parts, close together, none of which overlaps another."""
     lines = []
