@@ -2,7 +2,7 @@
 
 from gluegrain.glue import glued_joints
 from gluegrain.grid import Grid
-from gluegrain.parting import part_between
+from gluegrain.parting import cut_strength, part_between
 from gluegrain.reading import read_work
 
 MOST_BYTES = 65536
@@ -50,6 +50,12 @@ def pair_refusal(look, i, j):
     return []
 
 
+def is_set(numbers, put_count):
+    if numbers == [] or numbers[-1] >= put_count:
+        return False
+    return all([numbers[k - 1] < numbers[k] for k in range(1, len(numbers))])
+
+
 def judge(text, dry):
     look = look_at(text, dry)
     if look.refusal != []:
@@ -72,3 +78,12 @@ def holds(i, j, text, dry):
         return refusal
     parting = part_between(glued_joints(look.grid, dry), i, j)
     return [parting[0], len(parting[1])] + parting[1]
+
+
+def cut(text, dry, the_set):
+    look = look_at(text, dry)
+    if look.refusal != []:
+        return look.refusal
+    if not is_set(the_set, len(look.grid.puts)):
+        return [-8]
+    return [cut_strength(glued_joints(look.grid, dry), the_set)]

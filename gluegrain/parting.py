@@ -1,6 +1,15 @@
 """Where a work would part: how strong two puts hold one another, and the cut that shows it."""
 
 
+def cut_strength(joints, members):
+    strength = 0
+    for i in members:
+        for j, joint in enumerate(joints[i]):
+            if j not in members:
+                strength += joint
+    return strength
+
+
 # Each put that pull can reach from the start, with the put it comes to it from.
 def reach(free, start):
     came_from = {start: start}
