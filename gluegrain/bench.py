@@ -2,7 +2,7 @@
 
 from gluegrain.glue import glued_joints
 from gluegrain.grid import Grid
-from gluegrain.parting import cut_strength, part_between
+from gluegrain.parting import cut_strength, part_between, weakest_of
 from gluegrain.reading import read_work
 
 MOST_BYTES = 65536
@@ -87,3 +87,13 @@ def cut(text, dry, the_set):
     if not is_set(the_set, len(look.grid.puts)):
         return [-8]
     return [cut_strength(glued_joints(look.grid, dry), the_set)]
+
+
+def weakest(text, dry):
+    look = look_at(text, dry)
+    if look.refusal != []:
+        return look.refusal
+    if len(look.grid.puts) < 2:
+        return [-3]
+    found = weakest_of(glued_joints(look.grid, dry))
+    return [found[0]] + found[1] + [len(found[2])] + found[2]

@@ -52,3 +52,14 @@ def part_between(joints, i, j):
         strength += pull_along(free, steps_to(j, reached))
         reached = reach(free, i)
     return (strength, sorted(reached))
+
+
+# Of each cut one side has put 0. So it's as weak between put 0 and some other as between any two,
+# and the first pair for which it's so begins with put 0.
+def weakest_of(joints):
+    weakest = None
+    for second in range(1, len(joints)):
+        parting = part_between(joints, 0, second)
+        if weakest is None or parting[0] < weakest[0]:
+            weakest = (parting[0], [0, second], parting[1])
+    return weakest

@@ -156,6 +156,13 @@ def random_work(rng, count, reach=2):
     return lines
 
 
+def random_cells(rng, count, sides):
+    """Puts of one cell, of any grain, in a block of such sides, so that most touch several others."""
+    places = rng.sample(list(itertools.product(*[range(side) for side in sides])), count)
+    parts = [f"part {grain} 1 1 1 {grain}" for grain in "xyz"]
+    return parts + [f"put {rng.choice('xyz')} rb {at[0]} {at[1]} {at[2]}" for at in places]
+
+
 def random_dry(rng, count, pairs):
     dry = []
     for k in range(pairs):

@@ -6,7 +6,7 @@ import unittest
 
 from gluegrain.bench import holds
 from helper import (FIRST_REFUSALS, LARGEST_NUMBER, THREE, HandingChecks, apart, cell_ring, cell_row, joint_table,
-                    least_cuts, random_dry, random_work, strength, text_of)
+                    least_cuts, random_cells, random_dry, random_work, strength, text_of)
 
 
 def holds_lines(i, j, lines, dry=()):
@@ -155,8 +155,10 @@ class LargeWorks(HoldsCase):
 
     def test_random_works_part_where_told(self):
         rng = random.Random(21)
-        lines = random_work(rng, 32)
-        dry = random_dry(rng, 32, 20)
+        self.check_random(rng, random_work(rng, 32), random_dry(rng, 32, 20))
+        self.check_random(rng, random_cells(rng, 32, (4, 4, 2)), random_dry(rng, 32, 3))
+
+    def check_random(self, rng, lines, dry):
         table = joint_table(lines, dry)
         held = {}
         for i, j in rng.sample(list(itertools.combinations(range(32), 2)), 120):
@@ -202,13 +204,8 @@ class AgainstAllCuts(HoldsCase):
 
     def test_cells_close_together(self):
         rng = random.Random(33)
-        places = list(itertools.product(range(2), range(2), range(2)))
         for k in range(12):
-            grains = [rng.choice("xyz") for at in places]
-            rng.shuffle(places)
-            lines = [f"part {grain} 1 1 1 {grain}" for grain in "xyz"]
-            lines += [f"put {grain} rb {at[0]} {at[1]} {at[2]}" for grain, at in zip(grains, places)]
-            self.assert_least(lines, random_dry(rng, 8, k % 3))
+            self.assert_least(random_cells(rng, 8, (2, 2, 2)), random_dry(rng, 8, k % 3))
 
 
 class DryPairs(HoldsCase):
