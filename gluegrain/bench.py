@@ -2,7 +2,7 @@
 
 from gluegrain.glue import glued_joints
 from gluegrain.grid import Grid
-from gluegrain.parting import cut_strength, part_between, weakest_of
+from gluegrain.parting import clump_of, cut_strength, part_between, weakest_of
 from gluegrain.reading import read_work
 
 MOST_BYTES = 65536
@@ -97,3 +97,15 @@ def weakest(text, dry):
         return [-3]
     found = weakest_of(glued_joints(look.grid, dry))
     return [found[0]] + found[1] + [len(found[2])] + found[2]
+
+
+def clump(s, i, text, dry):
+    look = look_at(text, dry)
+    if look.refusal != []:
+        return look.refusal
+    if i >= len(look.grid.puts):
+        return [-4]
+    if s == 0:
+        return [-8]
+    members = clump_of(glued_joints(look.grid, dry), i, s)
+    return [len(members)] + members

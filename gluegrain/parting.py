@@ -63,3 +63,7 @@ def weakest_of(joints):
         if weakest is None or parting[0] < weakest[0]:
             weakest = (parting[0], [0, second], parting[1])
     return weakest
+
+
+def clump_of(joints, i, s):
+    return [j for j in range(len(joints)) if j == i or part_between(joints, i, j)[0] >= s]

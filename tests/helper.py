@@ -98,6 +98,30 @@ def joint_table(lines, dry=()):
     return table
 
 
+def turned_work(lines, ways, move):
+    """The work with all its puts turned alike, as ways say, and moved so that its lowest corner is move."""
+    axes = vectors(ways)
+
+    def turned_place(place):
+        return tuple(sum(place[k] * axes[k][at] for k in range(3)) for at in range(3))
+
+    letters = {step: letter for letter, step in STEPS.items()}
+    blocks = {line.split()[1]: [int(word) for word in line.split()[2:5]] for line in lines if line.startswith("part")}
+    turned_puts = []
+    for words in [line.split() for line in lines if line.startswith("put")]:
+        block = blocks[words[1]]
+        cells = turned(cells_left(block, []), block, words[2])
+        places = [turned_place([cell[k] + int(words[3 + k]) for k in range(3)]) for cell in cells]
+        new_ways = "".join([letters[turned_place(STEPS[way])] for way in words[2]])
+        turned_puts.append((words[1], new_ways, [min(place[k] for place in places) for k in range(3)]))
+    lowest = [min(corner[k] for name, new_ways, corner in turned_puts) for k in range(3)]
+    new_lines = [line for line in lines if not line.startswith("put")]
+    for name, new_ways, corner in turned_puts:
+        x, y, z = [corner[k] - lowest[k] + move[k] for k in range(3)]
+        new_lines.append(f"put {name} {new_ways} {x} {y} {z}")
+    return new_lines
+
+
 def strength(table, members):
     outside = [j for j in range(len(table)) if j not in members]
     return sum([table[i][j] for i in members for j in outside])
